@@ -1,0 +1,1 @@
+"""Cores in colours: in which order wire is covered so that least is wasted."""

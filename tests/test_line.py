@@ -82,7 +82,7 @@ class Whole(unittest.TestCase):
         texts = ["begin"] + [f"job {colour} 5000 1" for colour in range(6)] + ["saves 5"] * 73
         self.assertEqual(ask(texts), [[0]] + [[j] for j in range(6)] + [[0, 0]] * 73)
 
-    def test_seven_hundred_numbers(self):
+    def test_eighty_calls_of_the_longest_kind(self):
         calls = [0] + [7, 0, 0, 0, 0, 0, 0] * 79
         self.assertEqual(answers(calls), [1, 0] + [2, 0, 0] * 79)
 

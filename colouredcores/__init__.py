@@ -1,1 +1,1 @@
-"""Cores in colours: in which order wire is covered so that least is wasted."""
+"""Cores in colours: orders of jobs that waste least, and the pieces of cores that sparked."""

@@ -11,6 +11,8 @@ NAMES = (
 
 TOP = 4294967295
 
+PAIRS = [(a, b) for a in range(6) for b in range(6) if a != b]
+
 
 def call(text):
     words = text.split()
@@ -18,6 +20,7 @@ def call(text):
 
 
 def line(texts):
+    assert 1 <= len(texts) <= 80, "such a line isn't handed in"
     return [number for text in texts for number in call(text)]
 
 
@@ -34,6 +37,21 @@ def parted(numbers):
 
 def ask(texts):
     return parted(answers(line(texts)))
+
+
+def wastes(rows):
+    """Calls of waste on new pairs, and their answers, from {(a, b): n}."""
+    return [(f"waste {a} {b} {n}", 0) for (a, b), n in rows.items()]
+
+
+def made_up(seed, count):
+    """Numbers that look thrown together but are always the same for a seed."""
+    numbers = []
+    state = seed
+    for _ in range(count):
+        state = (state * 1103515245 + 12345) % 2147483648
+        numbers.append(state // 65536)
+    return numbers
 
 
 class LineCase(unittest.TestCase):

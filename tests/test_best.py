@@ -3,14 +3,9 @@
 import itertools
 import unittest
 
-from tests.lines import TOP, LineCase, ask
+from tests.lines import PAIRS, TOP, LineCase, ask, made_up, wastes
 
 SIX = [("begin", 0)] + [(f"job {colour} 10 10", colour) for colour in range(6)]
-
-
-def wastes(rows):
-    """Calls of waste, and their answers, from {(a, b): n}."""
-    return [(f"waste {a} {b} {n}", 0) for (a, b), n in rows.items()]
 
 
 # Best from none: 2, 0, 1 wastes 3 + 4. The other orders waste more.
@@ -21,7 +16,7 @@ THREE = [
 ]
 
 # Around 0, 1, 2, 3, 4, 5 each change wastes 1, every other one 50.
-RING = {(a, b): 1 if b == (a + 1) % 6 else 50 for a in range(6) for b in range(6) if a != b}
+RING = {(a, b): 1 if b == (a + 1) % 6 else 50 for a, b in PAIRS}
 
 # From 0 to 1 it is cheaper over 2.
 OVER_A_THIRD = {(0, 1): 100, (0, 2): 10, (2, 1): 20, (1, 0): 100, (1, 2): 100, (2, 0): 100}
@@ -99,7 +94,7 @@ class BestAndOrder(LineCase):
         )
 
     def test_the_most_that_can_be_wasted(self):
-        dearest = {(a, b): 1000 for a in range(6) for b in range(6) if a != b}
+        dearest = {pair: 1000 for pair in PAIRS}
         self.holds(
             ("begin", 0), *wastes(dearest), ("job 0 1 1", 0), ("run 0", 0, 0),
             *[(f"job {1 + j % 5} 1 1", j) for j in range(6)],
@@ -246,16 +241,6 @@ class Next(LineCase):
         self.holds(("begin", 0), ("next", -33), ("order", 0), ("best", 0, 0), ("job 0 1 1", 0))
 
 
-def made_up(seed, count):
-    """Numbers that look thrown together but are always the same for a seed."""
-    numbers = []
-    state = seed
-    for _ in range(count):
-        state = (state * 1103515245 + 12345) % 2147483648
-        numbers.append(state // 65536)
-    return numbers
-
-
 def plain_waste(table, now, colours):
     total = 0
     for colour in colours:
@@ -275,8 +260,7 @@ class Scene:
 
     def __init__(self, seed, most, direct_is_least=False):
         numbers = made_up(seed, 50)
-        pairs = [(a, b) for a in range(6) for b in range(6) if a != b]
-        self.table = {pair: numbers[at] % (most + 1) for at, pair in enumerate(pairs)}
+        self.table = {pair: numbers[at] % (most + 1) for at, pair in enumerate(PAIRS)}
         if direct_is_least:
             for c, a, b in itertools.permutations(range(6), 3):
                 self.table[a, b] = min(self.table[a, b], self.table[a, c] + self.table[c, b])

@@ -2,19 +2,21 @@
 
 import unittest
 
-from colouredcores.plant import Plant
-from tests.lines import TOP, LineCase, ask
+from tests.lines import PAIRS, TOP, LineCase, ask
 
 SIX = [("begin", 0)] + [(f"job {colour} 10 10", colour) for colour in range(6)]
 
 
 class Begin(LineCase):
     def test_nothing_is_wasted_between_any(self):
-        pairs = [(a, b) for a in range(6) for b in range(6) if a != b]
-        self.holds(("begin", 0), *[(f"waste {a} {b} 1000", 0) for a, b in pairs])
+        self.holds(("begin", 0), *[(f"waste {a} {b} 1000", 0) for a, b in PAIRS])
 
     def test_no_jobs_and_no_cores(self):
         self.holds(("begin", 0), ("order", 0), ("job 3 7 2", 0), ("run 0", 0, 0))
+        self.holds(("begin", 0), ("look 0", -2), ("core 0", -2))
+
+    def test_no_colour_and_nothing_wasted(self):
+        self.holds(("begin", 0), ("sums", 0, 0, 0, 0))
 
 
 class Waste(LineCase):
@@ -28,9 +30,8 @@ class Waste(LineCase):
         )
 
     def test_each_pair_keeps_its_own(self):
-        pairs = [(a, b) for a in range(6) for b in range(6) if a != b]
-        written = [(f"waste {a} {b} {10 * a + b}", 0) for a, b in pairs]
-        read = [(f"waste {a} {b} 0", 10 * a + b) for a, b in pairs]
+        written = [(f"waste {a} {b} {10 * a + b}", 0) for a, b in PAIRS]
+        read = [(f"waste {a} {b} 0", 10 * a + b) for a, b in PAIRS]
         self.holds(("begin", 0), *written, *read)
 
     def test_colours_at_the_edge(self):
@@ -73,6 +74,12 @@ class Job(LineCase):
     def test_several_of_one_colour(self):
         self.holds(("begin", 0), *[("job 2 10 3", j) for j in range(6)])
 
+    def test_it_is_kept_as_it_was_told(self):
+        self.holds(
+            ("begin", 0), ("job 4 50 5", 0), ("job 2 700 70", 1), ("look 0", 4, 50, 5), ("look 1", 2, 700, 70),
+            ("sums", 2, 0, 0, 0),
+        )
+
     def test_colour_at_the_edge(self):
         self.holds(
             ("begin", 0), ("job 5 10 10", 0), ("job 6 10 10", -22), (f"job {TOP} 10 10", -22), ("job 0 10 10", 1),
@@ -91,7 +98,10 @@ class Job(LineCase):
         )
 
     def test_a_seventh(self):
-        self.holds(*SIX, ("job 0 10 10", -28), ("order", 6, 0, 1, 2, 3, 4, 5))
+        self.holds(
+            *SIX, ("job 0 9 9", -28), ("order", 6, 0, 1, 2, 3, 4, 5), ("sums", 6, 0, 0, 0),
+            *[(f"look {j}", j, 10, 10) for j in range(6)], ("look 6", -2),
+        )
 
     def test_two_refusals_due(self):
         self.holds(*SIX, ("job 6 10 10", -22), ("job 0 0 1", -22), ("job 0 5001 1", -22), ("job 0 10 11", -22),
@@ -132,10 +142,17 @@ class Drop(LineCase):
         self.holds(*start, *jobs, ("drop 1", 2), ("run 1", 1, 3))
         self.holds(*start, *jobs, ("drop 2", 2), ("run 1", 1, 2))
 
+    def test_those_behind_it_keep_what_they_are(self):
+        jobs = [("begin", 0), ("job 0 10 1", 0), ("job 1 20 2", 1), ("job 2 30 3", 2), ("job 3 40 4", 3)]
+        self.holds(
+            *jobs, ("drop 1", 3), ("look 0", 0, 10, 1), ("look 1", 2, 30, 3), ("look 2", 3, 40, 4), ("look 3", -2),
+        )
+
     def test_it_makes_no_core_wastes_nothing_and_leaves_the_colour(self):
         self.holds(
             ("begin", 0), ("waste 0 1 4", 0), ("waste 1 0 6", 0), ("waste 0 2 5", 0), ("waste 1 2 9", 0),
-            ("job 0 1 1", 0), ("run 0", 0, 0), ("job 1 1 1", 0), ("job 2 1 1", 1), ("drop 0", 1), ("run 0", 1, 5),
+            ("job 0 1 1", 0), ("run 0", 0, 0), ("job 1 1 1", 0), ("job 2 1 1", 1), ("sums", 2, 1, 0, 1), ("drop 0", 1),
+            ("sums", 1, 1, 0, 1), ("run 0", 1, 5),
         )
 
     def test_a_refusal_changes_nothing(self):
@@ -144,15 +161,14 @@ class Drop(LineCase):
 
 class Run(LineCase):
     def test_a_first_one_wastes_nothing(self):
-        pairs = [(a, b) for a in range(6) for b in range(6) if a != b]
-        written = [(f"waste {a} {b} 9", 0) for a, b in pairs]
+        written = [(f"waste {a} {b} 9", 0) for a, b in PAIRS]
         for colour in range(6):
             self.holds(("begin", 0), *written, (f"job {colour} 5 5", 0), ("run 0", 0, 0))
 
     def test_cores_are_numbered_as_they_are_made(self):
         self.holds(
-            ("begin", 0), ("waste 0 1 30", 0), ("waste 1 0 70", 0), ("job 0 9 3", 0), ("job 1 9 3", 1), ("job 0 9 3", 2),
-            ("run 1", 0, 0), ("run 1", 1, 70), ("job 1 4 4", 1), ("run 1", 2, 30), ("run 0", 3, 70),
+            ("begin", 0), ("waste 0 1 30", 0), ("waste 1 0 70", 0), ("job 0 9 3", 0), ("job 1 9 3", 1),
+            ("job 0 9 3", 2), ("run 1", 0, 0), ("run 1", 1, 70), ("job 1 4 4", 1), ("run 1", 2, 30), ("run 0", 3, 70),
         )
 
     def test_one_colour_again_wastes_nothing(self):
@@ -194,13 +210,13 @@ class Run(LineCase):
         self.assertEqual(ask(texts), wanted)
 
     def test_what_a_run_keeps(self):
-        # No call written so far tells these.
-        plant = Plant()
-        plant.between[2][4] = 30
-        plant.jobs = [(4, 50, 5), (2, 700, 70), (2, 60, 6)]
-        self.assertEqual([plant.run_job(1), plant.run_job(0), plant.run_job(0)], [0, 30, 0])
-        self.assertEqual(plant.cores, [(2, 700), (4, 50), (2, 60)])
-        self.assertEqual((plant.wasted, plant.colour, plant.jobs), (30, 2, []))
+        self.holds(
+            ("begin", 0), ("waste 2 4 30", 0), ("job 4 50 5", 0), ("job 2 700 70", 1), ("job 2 60 6", 2),
+            ("run 1", 0, 0), ("sums", 2, 1, 0, 3), ("look 0", 4, 50, 5), ("look 1", 2, 60, 6),
+            ("run 0", 1, 30), ("sums", 1, 2, 30, 5), ("look 0", 2, 60, 6),
+            ("run 0", 2, 0), ("sums", 0, 3, 30, 3), ("look 0", -2),
+            ("core 0", 2, 700), ("core 1", 4, 50), ("core 2", 2, 60),
+        )
 
 
 if __name__ == "__main__":

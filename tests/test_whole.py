@@ -1,9 +1,171 @@
 """Whole lines of all calls, thrown together, beside the document told once more."""
 
+import itertools
 import unittest
 
 from tests.lines import NAMES, PAIRS, TOP, ask, made_up
-from tests.plain import plain_answers
+
+
+class Refusal(Exception):
+    pass
+
+
+def refuse_if(due, number):
+    if due:
+        raise Refusal(number)
+
+
+class Plain:
+    """One object: a method for each call but begin, which makes a new one."""
+
+    def __init__(self):
+        self.table = {}
+        self.now = None
+        self.all_jobs = []
+        self.wires = []
+        self.lost = 0
+
+    def step(self, a, b):
+        return 0 if a is None else self.table.get((a, b), 0)
+
+    def along(self, colours):
+        row = [self.now, *colours]
+        return sum(self.step(a, b) for a, b in zip(row, row[1:]))
+
+    def best_of(self, jobs):
+        orders = itertools.permutations(range(len(jobs)))
+        return min((self.along([jobs[j][0] for j in order]), list(order)) for order in orders)
+
+    def over(self, a, b):
+        others = [colour for colour in range(6) if colour not in (a, b)]
+        ways = [(a, *way, b) for count in range(5) for way in itertools.permutations(others, count)]
+        return min(sum(self.step(*pair) for pair in zip(way, way[1:])) for way in ways)
+
+    def cut(self, wires, n):
+        return sum(len(piece) // n for wire in wires for piece in wire[1].split("x"))
+
+    def of_colour(self, colour):
+        return [wire for wire in self.wires if wire[0] == colour]
+
+    def waste(self, a, b, n):
+        refuse_if(a > 5 or b > 5 or a == b or n > 1000, -22)
+        before = self.step(a, b)
+        self.table[a, b] = n
+        return [before]
+
+    def job(self, colour, metres, piece):
+        refuse_if(colour > 5 or not 1 <= metres <= 5000 or not 1 <= piece <= metres, -22)
+        refuse_if(len(self.all_jobs) == 6, -28)
+        self.all_jobs.append([colour, metres, piece])
+        return [len(self.all_jobs) - 1]
+
+    def drop(self, j):
+        refuse_if(j >= len(self.all_jobs), -2)
+        del self.all_jobs[j]
+        return [len(self.all_jobs)]
+
+    def run(self, j):
+        refuse_if(j >= len(self.all_jobs), -2)
+        colour, metres, _ = self.all_jobs.pop(j)
+        lost = self.step(self.now, colour)
+        self.lost += lost
+        self.now = colour
+        self.wires.append([colour, "." * metres])
+        return [len(self.wires) - 1, lost]
+
+    def best(self):
+        return [0, self.best_of(self.all_jobs)[0]]
+
+    def order(self):
+        return [len(self.all_jobs), *self.best_of(self.all_jobs)[1]]
+
+    def attempt(self, *numbers):
+        order = numbers[:len(self.all_jobs)]
+        refuse_if(set(order) != set(range(len(self.all_jobs))), -22)
+        return [0, self.along([self.all_jobs[j][0] for j in order])]
+
+    def would(self, colour):
+        refuse_if(colour > 5, -22)
+        refuse_if(len(self.all_jobs) == 6, -28)
+        return [0, self.best_of(self.all_jobs + [[colour, 1, 1]])[0] - self.best_of(self.all_jobs)[0]]
+
+    def saves(self, j):
+        refuse_if(j >= len(self.all_jobs), -2)
+        others = [job for at, job in enumerate(self.all_jobs) if at != j]
+        return [0, self.best_of(self.all_jobs)[0] - self.best_of(others)[0]]
+
+    def next(self):
+        refuse_if(not self.all_jobs, -33)
+        return [self.best_of(self.all_jobs)[1][0]]
+
+    def by(self, a, b):
+        refuse_if(a > 5 or b > 5, -22)
+        return [0 if a == b else self.over(a, b)]
+
+    def detours(self):
+        pairs = [(a, b) for a in range(6) for b in range(6) if a != b and self.over(a, b) < self.step(a, b)]
+        return [len(pairs), *[colour for pair in pairs for colour in pair]]
+
+    def spark(self, c, p):
+        refuse_if(c >= len(self.wires), -2)
+        wire = self.wires[c][1]
+        refuse_if(p >= len(wire), -22)
+        refuse_if(wire[p] == "x", -17)
+        refuse_if(wire.count("x") == 8, -28)
+        self.wires[c][1] = wire[:p] + "x" + wire[p + 1:]
+        return [wire.count("x") + 1]
+
+    def pieces(self, c):
+        refuse_if(c >= len(self.wires), -2)
+        lengths = [len(piece) for piece in self.wires[c][1].split("x")]
+        return [len(lengths), *lengths]
+
+    def good(self, c, n):
+        refuse_if(c >= len(self.wires), -2)
+        refuse_if(n == 0, -22)
+        return [self.cut([self.wires[c]], n)]
+
+    def stock(self, colour, n):
+        refuse_if(colour > 5 or n == 0, -22)
+        return [self.cut(self.of_colour(colour), n)]
+
+    def longest(self, colour, k):
+        refuse_if(colour > 5 or k == 0, -22)
+        wires = self.of_colour(colour)
+        refuse_if(self.cut(wires, 1) < k, -33)
+        return [next(n for n in range(5000, 0, -1) if self.cut(wires, n) >= k)]
+
+    def core(self, c):
+        refuse_if(c >= len(self.wires), -2)
+        colour, wire = self.wires[c]
+        return [colour, len(wire), *[p for p, sign in enumerate(wire) if sign == "x"]]
+
+    def look(self, j):
+        refuse_if(j >= len(self.all_jobs), -2)
+        return list(self.all_jobs[j])
+
+    def sums(self):
+        return [len(self.all_jobs), len(self.wires), self.lost, 0 if self.now is None else self.now + 1]
+
+
+def plain_answers(texts):
+    """What each call is answered, one list each."""
+    works = None
+    given = []
+    for text in texts:
+        name, *numbers = text.split()
+        if name == "begin":
+            works = Plain()
+            given.append([0])
+        elif works is None:
+            given.append([-11])
+        else:
+            try:
+                given.append(getattr(works, name)(*[int(number) for number in numbers]))
+            except Refusal as refusal:
+                given.append([refusal.args[0]])
+    return given
+
 
 # By a call: how often it comes, and what each of its numbers is mostly below (0: a line's most metres).
 MOSTLY = {
